@@ -1,0 +1,1 @@
+"""Strips of paper with holes in tracks, and the programs that punch them."""
