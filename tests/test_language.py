@@ -146,7 +146,8 @@ def check_statement(node, parents, tell):
         tell("L6", node, "else behind a loop")
     if isinstance(node, ast.Try) and node.finalbody:
         tell("L6", node, "finally")
-    if isinstance(node, ast.Expr) and not isinstance(node.value, ast.Call) and not isinstance(parents[node], ast.Module):
+    if isinstance(node, ast.Expr) and not isinstance(node.value, ast.Call) \
+            and not isinstance(parents[node], ast.Module):
         tell("L6", node, "a value by itself")
     if isinstance(node, ast.ExceptHandler):
         named = node.type.id if isinstance(node.type, ast.Name) else None
@@ -282,5 +283,6 @@ class Code(unittest.TestCase):
                       "def f(n):\n    x = range(n)\n    return x", "def f(n):\n    x = set(n)\n    return x",
                       "def f(n):\n    a, b = n\n    return a", "def f(n):\n    assert n", "print(1)",
                       "x = [1]\n\n\ndef f():\n    x.append(2)", "def f(n):\n    return (x for x in n)",
-                      "def f(n):\n    return n is f", "def f():\n    try:\n        g()\n    except Exception:\n        pass"]:
+                      "def f(n):\n    return n is f",
+                      "def f():\n    try:\n        g()\n    except Exception:\n        pass"]:
             self.assertNotEqual(faults_of(ast.parse(given), {}), [], given)
