@@ -28,6 +28,15 @@ def hole_count(strip):
     return sum([len(row) for row in strip.rows])
 
 
+# A track's holes are made by one punch, so these are the busiest punch's.
+def most_in_a_track(strip):
+    counts = [0] * strip.width
+    for row in strip.rows:
+        for track in row:
+            counts[track] += 1
+    return max(counts)
+
+
 def unlike_tracks(one, other):
     return sorted(set(one) ^ set(other))
 
@@ -43,3 +52,24 @@ def first_difference(one, other):
     if len(one.rows) != len(other.rows):
         return [shared, one.width]
     return []
+
+
+def turned(strip):
+    return Strip(strip.width, [turned_row(row, strip.width) for row in strip.rows])
+
+
+# Turned, the highest track is the lowest: gone through from behind, tracks rise again.
+def turned_row(row, width):
+    return [width - 1 - track for track in reversed(row)]
+
+
+def moved(strip, by):
+    return Strip(strip.width, [moved_row(row, by, strip.width) for row in strip.rows])
+
+
+def moved_row(row, by, width):
+    return [track + by for track in row if 0 <= track + by < width]
+
+
+def part(strip, first, count):
+    return Strip(strip.width, strip.rows[first:first + count])

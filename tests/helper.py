@@ -40,6 +40,34 @@ def diff(s, u):
     return [8, s, u]
 
 
+def turned(s):
+    return [9, s]
+
+
+def moved(s, b):
+    return [10, s, b]
+
+
+def part(s, i, k):
+    return [11, s, i, k]
+
+
+def program(s):
+    return [12, s]
+
+
+def punch(width, given):
+    return [13, width, len(given)] + list(given)
+
+
+def busy(width, given):
+    return [14, width, len(given)] + list(given)
+
+
+def short(width, given):
+    return [15, width, len(given)] + list(given)
+
+
 def joined(calls):
     return [number for call in calls for number in call]
 
@@ -78,6 +106,11 @@ def ask_last(*calls):
 
 def alone(number):
     return (number, [], "")
+
+
+def counted(given):
+    """The answer that tells how many bytes these are, and them."""
+    return (len(given), [], bytes(given).decode("latin-1"))
 
 
 def text_of_rows(width, rows):

@@ -1,37 +1,10 @@
 """A1 and A2: a strip and its text, a strip and its slots, are one to one."""
 
-import itertools
-import random
 import unittest
 
-from tests.helper import (alone, ask, diff, fill, flat, holes, read, row, size, slots, slots_of_rows, text,
-                          text_of_rows)
-
-
-def all_rows(width):
-    return [[track for track in range(width) if mask >> track & 1] for mask in range(1 << width)]
-
-
-def small_strips():
-    for width, most in ((1, 6), (2, 4), (3, 3)):
-        for length in range(most + 1):
-            for rows in itertools.product(all_rows(width), repeat=length):
-                yield width, list(rows)
-
-
-def larger_strips():
-    source = random.Random(20)
-    for turn in range(60):
-        width = source.choice([1, 2, 7, 64, 127, 128])
-        left = source.choice([1, 5, 40, 256])
-        rows = []
-        while left > 0:
-            count = min(left, source.choice([1, 1, 2, 3, 50]))
-            share = source.choice([0, 1, 5, 9, 10])
-            rows += [[track for track in range(width) if source.randrange(10) < share]] * count
-            left -= count
-        if len(text_of_rows(width, rows)) < 20000:
-            yield width, rows
+from tests.helper import (alone, ask, diff, fill, flat, holes, moved, part, punch, read, row, size, slots,
+                          slots_of_rows, text, text_of_rows, turned)
+from tests.samples import larger_strips, program_of_rows, punched, right_programs, small_strips, some_strips
 
 
 class OneToOne(unittest.TestCase):
@@ -67,3 +40,38 @@ class OneToOne(unittest.TestCase):
             seen_slots[(tuple(told[2][1]), tuple(told[3][1][:2]))] = (width, rows)
         count = len(list(small_strips()))
         self.assertEqual((len(seen_texts), len(seen_slots)), (count, count))
+
+
+class OfEveryCallThatMakesAStrip(unittest.TestCase):
+    """The texts and slots of strips that turned, moved, part and punch make lead back to the same strips."""
+
+    def check(self, width, made, rows):
+        given = text_of_rows(width, rows)
+        given_slots = slots_of_rows(rows)
+        s = len(made) - 1
+        calls = made + [text(s), slots(s), read(given), diff(s, s + 1)]
+        expected = [(len(given), [], given), (len(given_slots), flat(given_slots), ""), alone(s + 1), alone(0)]
+        if len(given_slots) <= 1024:
+            calls += [fill(width, len(rows), given_slots), diff(s, s + 2)]
+            expected += [alone(s + 2), alone(0)]
+        self.assertEqual(ask(*calls), [alone(number) for number in range(s + 1)] + expected)
+
+    def test_turned_moved_and_part(self):
+        for width, rows in some_strips():
+            made = read(text_of_rows(width, rows))
+            turned_rows = [[width - 1 - track for track in tracks][::-1] for tracks in rows]
+            moved_rows = [[track - 1 for track in tracks if track > 0] for tracks in rows]
+            self.check(width, [made, turned(0)], turned_rows)
+            self.check(width, [made, moved(0, -1)], moved_rows)
+            self.check(width, [made, part(0, len(rows) // 2, (len(rows) + 1) // 2)], rows[len(rows) // 2:])
+
+    def test_punch(self):
+        for width, rows in some_strips():
+            self.check(width, [punch(width, program_of_rows(rows))], rows)
+        for width, given in right_programs():
+            self.check(width, [punch(width, given)], punched(given))
+
+    def test_programs_that_make_the_same_strip(self):
+        told = ask(punch(2, [128, 2, 128, 1, 0]), punch(2, [128, 1, 1, 129, 128, 129, 1, 129, 0]), diff(0, 1), text(0),
+                   text(1), slots(0), slots(1))
+        self.assertEqual(told[2:], [alone(0), told[3], told[3], told[5], told[5]])
